@@ -1,6 +1,9 @@
 package hand
 
-import "contango/api"
+import (
+	"contango/api"
+	"contango/lists"
+)
 
 // way is one of the two ways of going over a pair: from what was written to
 // what is read, or back.
@@ -33,7 +36,7 @@ func (c pairCount) valid(p Pair) bool {
 }
 
 // validPairs reports whether all pairs of the clerk are valid.
-func validPairs(clerk []Pair) bool { return all(clerk, countPairs(clerk).valid) }
+func validPairs(clerk []Pair) bool { return lists.All(clerk, countPairs(clerk).valid) }
 
 // fewPairs reports whether the clerk has no more pairs than there may be.
 func fewPairs(clerk []Pair) bool { return len(clerk) <= api.MaxHandPairs }

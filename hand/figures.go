@@ -4,6 +4,7 @@ import (
 	"strings"
 
 	"contango/api"
+	"contango/lists"
 )
 
 const (
@@ -26,7 +27,7 @@ func parse(s string) (figures, bool) {
 	if len(whole) == 0 || len(whole) > api.MaxHandDigits || cut && len(part) != 1 {
 		return figures{}, false
 	}
-	if !all([]byte(whole+part), isSign) {
+	if !lists.All([]byte(whole+part), isSign) {
 		return figures{}, false
 	}
 	var f figures

@@ -10,6 +10,7 @@ import (
 	"strconv"
 
 	"contango/api"
+	"contango/lists"
 )
 
 // Pair is a figure that was written, and the one that a clerk can take it for.
@@ -41,11 +42,11 @@ const None = -1
 
 // CheckHand returns the error of the hand, or OK.
 func CheckHand(h Hand) api.Errno {
-	if len(h.Clerks) > api.MaxHandClerks || !all(h.Clerks, fewPairs) {
+	if len(h.Clerks) > api.MaxHandClerks || !lists.All(h.Clerks, fewPairs) {
 		return api.ErrLimit
 	}
 	limits := Range{Lo: 0, Hi: api.MaxHandErrors}
-	if len(h.Clerks) == 0 || !limits.has(h.Errors) || !all(h.Clerks, validPairs) {
+	if len(h.Clerks) == 0 || !limits.has(h.Errors) || !lists.All(h.Clerks, validPairs) {
 		return api.ErrArg
 	}
 	return api.OK
@@ -109,7 +110,7 @@ func Bounds(h Hand, n Note) (Range, api.Errno) {
 	if e != api.OK {
 		return Range{}, e
 	}
-	return Range{Lo: least(values[0], values[1:]...), Hi: slices.Max(values)}, api.OK
+	return Range{Lo: lists.Least(values[0], values[1:]...), Hi: slices.Max(values)}, api.OK
 }
 
 // Further returns how many texts one more reading by the clerk leaves at most.

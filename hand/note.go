@@ -5,6 +5,7 @@ import (
 	"slices"
 
 	"contango/api"
+	"contango/lists"
 )
 
 // work is a note at work.
@@ -40,7 +41,7 @@ func open(h Hand, n Note) (work, api.Errno) {
 	}
 	known := func(r Reading) bool { return h.hasClerk(r.Clerk) }
 	checks := Range{Lo: None, Hi: modulus - 1}
-	if len(n.Readings) == 0 || !all(n.Readings, known) || !checks.has(n.Check) {
+	if len(n.Readings) == 0 || !lists.All(n.Readings, known) || !checks.has(n.Check) {
 		return work{}, api.ErrRange
 	}
 	w := begin(h)
@@ -80,7 +81,7 @@ func (w work) allows(f figures) bool {
 	if !f.isText() || w.check != None && w.check != f.check() {
 		return false
 	}
-	return all(w.readings, func(r seen) bool {
+	return lists.All(w.readings, func(r seen) bool {
 		_, ok := w.misread(r.clerk, f, r.read)
 		return ok
 	})
@@ -166,18 +167,11 @@ func (w work) without(left []int) work {
 	return kept
 }
 
-// smallestSet returns the smallest set, and whether there is one.
+// smallestSet returns the smallest set, and whether there is one. Some reading
+// has to be left.
 func (w work) smallestSet() ([]int, bool) {
-	var set []int
-	found := false
-search:
-	for many := range len(w.readings) {
-		for list := range choices(len(w.readings), many) {
-			if !w.without(list).contradictory() {
-				set, found = list, true
-				break search
-			}
-		}
-	}
-	return set, found
+	many := len(w.readings)
+	return lists.Smallest(many, many-1, func(left []int) bool {
+		return !w.without(left).contradictory()
+	})
 }
