@@ -19,6 +19,14 @@ func Least(first int, more ...int) int {
 	return first
 }
 
+// Greatest returns the maximum of the numbers.
+func Greatest(first int, more ...int) int {
+	for _, n := range more {
+		first = max(first, n)
+	}
+	return first
+}
+
 // Smallest returns the shortest increasing list of at most so many indexes
 // below the end that fits, of several the lexicographically first one, and
 // whether there is one.

@@ -39,6 +39,21 @@ func TestLeast(t *testing.T) {
 	}
 }
 
+func TestGreatest(t *testing.T) {
+	for _, x := range []struct {
+		list []int
+		want int
+	}{
+		{[]int{-3}, -3},
+		{[]int{3, -1, 5}, 5},
+		{[]int{5, 3}, 5},
+	} {
+		if got := lists.Greatest(x.list[0], x.list[1:]...); got != x.want {
+			t.Errorf("Greatest of %v: %d", x.list, got)
+		}
+	}
+}
+
 // TestSmallestOrder: shorter lists come first, and those of one length in lexicographic order.
 func TestSmallestOrder(t *testing.T) {
 	due := [][]int{{}, {0}, {1}, {2}, {0, 1}, {0, 2}, {1, 2}, {0, 1, 2}}
