@@ -2,7 +2,6 @@ package hand
 
 import (
 	"iter"
-	"slices"
 
 	"contango/api"
 	"contango/lists"
@@ -157,14 +156,8 @@ func (w work) further(clerk int) int {
 
 // without returns the note without the readings of these indexes.
 func (w work) without(left []int) work {
-	kept := w
-	kept.readings = nil
-	for i, r := range w.readings {
-		if !slices.Contains(left, i) {
-			kept.readings = append(kept.readings, r)
-		}
-	}
-	return kept
+	w.readings = lists.Others(w.readings, 0, left)
+	return w
 }
 
 // smallestSet returns the smallest set, and whether there is one. Some reading

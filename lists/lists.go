@@ -27,6 +27,18 @@ func Greatest(first int, more ...int) int {
 	return first
 }
 
+// Others returns the elements of the list whose indexes, counted from the first
+// one on, are not left out.
+func Others[T any](list []T, first int, left []int) []T {
+	var kept []T
+	for i, x := range list {
+		if !slices.Contains(left, first+i) {
+			kept = append(kept, x)
+		}
+	}
+	return kept
+}
+
 // Smallest returns the shortest increasing list of at most so many indexes
 // below the end that fits, of several the lexicographically first one, and
 // whether there is one.

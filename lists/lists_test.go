@@ -54,6 +54,33 @@ func TestGreatest(t *testing.T) {
 	}
 }
 
+func TestOthers(t *testing.T) {
+	for _, x := range []struct {
+		list  []int
+		first int
+		left  []int
+		want  []int
+	}{
+		{nil, 0, []int{0}, nil},
+		{[]int{7, 8, 9}, 0, nil, []int{7, 8, 9}},
+		{[]int{7, 8, 9}, 0, []int{0, 2}, []int{8}},
+		{[]int{7, 8, 9}, 0, []int{0, 1, 2}, nil},
+		{[]int{7, 8, 9}, 4, []int{0, 3, 5, 7}, []int{7, 9}},
+	} {
+		before := slices.Clone(x.list)
+		got := lists.Others(x.list, x.first, x.left)
+		if !slices.Equal(got, x.want) {
+			t.Errorf("Others of %v from %d, without %v: %v; want %v", x.list, x.first, x.left, got, x.want)
+		}
+		for i := range got {
+			got[i] = -1
+		}
+		if !slices.Equal(x.list, before) {
+			t.Errorf("Others shares its memory with %v", before)
+		}
+	}
+}
+
 // TestSmallestOrder: shorter lists come first, and those of one length in lexicographic order.
 func TestSmallestOrder(t *testing.T) {
 	due := [][]int{{}, {0}, {1}, {2}, {0, 1}, {0, 2}, {1, 2}, {0, 1, 2}}

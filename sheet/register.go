@@ -1,8 +1,6 @@
 package sheet
 
 import (
-	"slices"
-
 	"contango/api"
 	"contango/lists"
 )
@@ -66,19 +64,7 @@ func (r Register) without(left []int) Register {
 	return Register{
 		Houses:  r.Houses,
 		Start:   r.Start,
-		Entries: others(r.Entries, 0, left),
-		Sights:  others(r.Sights, len(r.Entries), left),
+		Entries: lists.Others(r.Entries, 0, left),
+		Sights:  lists.Others(r.Sights, len(r.Entries), left),
 	}
-}
-
-// others returns the elements of the list whose indexes, from the first one on,
-// are not left out.
-func others[T any](list []T, first int, left []int) []T {
-	var kept []T
-	for i, x := range list {
-		if !slices.Contains(left, first+i) {
-			kept = append(kept, x)
-		}
-	}
-	return kept
 }
